@@ -1,0 +1,1 @@
+"""Hydras: cut, told and compared. The calls are answered in heads.hydra."""
